@@ -1,0 +1,1 @@
+"""Proofs of one text, marked by several readers."""
