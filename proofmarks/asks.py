@@ -5,6 +5,8 @@ KEEP = 1
 MOVE = 2
 
 STANDS_OPEN = 0
+CARRIED_OUT = 1
+LOST = 2
 WITHDRAWN = 3
 
 
@@ -19,6 +21,8 @@ class Mark:
         self.gap = gap
         self.words = words
         self.state = STANDS_OPEN
+        # The number of the proof in which it was carried out or lost.
+        self.closed_in = None
 
 
 def change_mark(reader, start, end, words):
@@ -71,3 +75,23 @@ def gainsay(one, other):
     if one.gap == other.gap:
         return True
     return breaks_into(one, other.start, other.end) or breaks_into(other, one.start, one.end)
+
+
+def clashing_pairs(marks, numbers):
+    """The pairs of these marks that gainsay one another, as (lesser number, greater number)."""
+    pairs = []
+    for lesser in numbers:
+        for greater in numbers:
+            if lesser < greater and gainsay(marks[lesser], marks[greater]):
+                pairs.append((lesser, greater))
+    return pairs
+
+
+def asked_by(mark):
+    """What a mark asks for, told number by number."""
+    asked = [mark.kind, mark.start, mark.end]
+    if mark.kind == CHANGE:
+        return asked + [len(mark.words)] + mark.words
+    if mark.kind == MOVE:
+        return asked + [mark.gap]
+    return asked

@@ -8,6 +8,12 @@ CHANGE_CALL = 2
 KEEP_CALL = 3
 MOVE_CALL = 4
 WITHDRAW_CALL = 5
+CLASHES_CALL = 6
+CARRY_CALL = 7
+SHOWN_CALL = 8
+WHO_CALL = 9
+MARK_CALL = 10
+GONE_CALL = 11
 
 # By a call's number: how many whole numbers it has, and whether a row follows them.
 FORMS = (
@@ -18,6 +24,12 @@ FORMS = (
     (4, False),
     (1, False),
     (0, False),
+    (0, False),
+    (0, False),
+    (1, False),
+    (1, False),
+    (0, False),
+    (0, True),
 )
 
 
@@ -55,4 +67,16 @@ def answer_call(proof, call, numbers, row):
         return proof.move(numbers[0], numbers[1], numbers[2], numbers[3])
     if call == WITHDRAW_CALL:
         return proof.withdraw(numbers[0])
-    return proof.clashes()
+    if call == CLASHES_CALL:
+        return proof.clashes()
+    if call == CARRY_CALL:
+        return proof.carry()
+    if call == SHOWN_CALL:
+        return proof.shown()
+    if call == WHO_CALL:
+        return proof.who(numbers[0])
+    if call == MARK_CALL:
+        return proof.tell_mark(numbers[0])
+    if call == GONE_CALL:
+        return proof.gone()
+    return proof.test(row)

@@ -31,6 +31,30 @@ def clashes():
     return [6]
 
 
+def carry():
+    return [7]
+
+
+def shown():
+    return [8]
+
+
+def who(place):
+    return [9, place]
+
+
+def mark(number):
+    return [10, number]
+
+
+def gone():
+    return [11]
+
+
+def tested(*marks):
+    return [12, len(marks), *marks]
+
+
 def split(numbers):
     """The answers of the calls, each a list; fails if a count does not fit."""
     found = []
@@ -54,6 +78,11 @@ def ask(*calls):
 def last(*calls):
     """The answer to the last of these calls."""
     return ask(*calls)[-1]
+
+
+def after(calls, *asked):
+    """The answers to what is asked behind these calls."""
+    return ask(*calls, *asked)[len(calls):]
 
 
 def text_of(count):

@@ -1,7 +1,8 @@
 import unittest
 
-from proofmarks.proof import Proof
-from tests.calls import ask, begins, change, clashes, keep, last, move, on_text, reader, text_of, withdraw
+from tests.calls import (
+    after, ask, begins, carry, change, clashes, keep, last, move, on_text, reader, text_of, withdraw,
+)
 
 GREATEST = 4294967295
 
@@ -170,46 +171,31 @@ class OfAllMarks(unittest.TestCase):
 
 
 class InAll(unittest.TestCase):
-    """Without carry, 60 marks take more than a list's hundred calls: so the proof itself is asked here."""
+    """Each list here makes 60 marks: 50 that are carried out, and 10 more."""
 
-    def proof_with(self, count):
-        """A proof of three words with so many marks, each withdrawn."""
-        proof = Proof()
-        proof.begins([1, 2, 3])
-        proof.add_reader(1)
-        for number in range(count):
-            self.assertEqual(proof.keep(0, 0, 1), [number])
-            self.assertEqual(proof.withdraw(number), [0])
-        return proof
+    def setUp(self):
+        self.calls = [text_of(3), reader(1)] + ([keep(0, 0, 1)] * 10 + [carry()]) * 5
 
     def test_sixty_at_the_most(self):
-        proof = self.proof_with(57)
-        self.assertEqual(proof.change(0, 0, 1, [7]), [57])
-        self.assertEqual(proof.move(0, 0, 1, 2), [58])
-        self.assertEqual(proof.keep(0, 0, 1), [59])
-        for refused in (proof.change(0, 0, 1, [7]), proof.move(0, 0, 1, 2), proof.keep(0, 0, 1)):
-            self.assertEqual(refused, [-5])
-        self.assertEqual(proof.clashes(), [3, 57, 58, 57, 59, 58, 59])
-        self.assertEqual(proof.withdraw(60), [-2])
+        calls = self.calls + [call for number in range(50, 57) for call in (keep(0, 0, 1), withdraw(number))]
+        found = after(
+            calls, change(0, 0, 1, 7), move(0, 0, 1, 2), keep(0, 0, 1), change(0, 0, 1, 7), move(0, 0, 1, 2),
+            keep(0, 0, 1), clashes(), withdraw(60),
+        )
+        self.assertEqual(found, [[57], [58], [59], [-5], [-5], [-5], [3, 57, 58, 57, 59, 58, 59], [-2]])
 
     def test_withdrawing_leaves_no_room(self):
-        proof = self.proof_with(60)
-        self.assertEqual(proof.keep(0, 0, 1), [-5])
+        calls = self.calls + [call for number in range(50, 60) for call in (keep(0, 0, 1), withdraw(number))]
+        self.assertEqual(after(calls, keep(0, 0, 1), clashes()), [[-5], [0]])
 
     def test_what_is_told_ahead_of_it(self):
-        proof = self.proof_with(60)
-        self.assertEqual(proof.keep(1, 1, 1), [-2])
-        self.assertEqual(proof.keep(0, 1, 1), [-1])
-        self.assertEqual(proof.change(1, 2, 1, [7]), [-2])
-        self.assertEqual(proof.change(0, 2, 1, [7]), [-1])
-        self.assertEqual(proof.move(1, 0, 1, 1), [-2])
-        self.assertEqual(proof.move(0, 0, 1, 1), [-1])
+        calls = self.calls + [keep(0, 0, 1)] * 10 + [carry()]
+        wrong = [keep(1, 1, 1), keep(0, 1, 1), change(1, 2, 1, 7), change(0, 2, 1, 7), move(1, 0, 1, 1), move(0, 0, 1, 1)]
+        self.assertEqual(after(calls, *wrong), [[-2], [-1]] * 3)
 
     def test_begins_makes_room(self):
-        proof = self.proof_with(60)
-        self.assertEqual(proof.begins([1]), [1])
-        self.assertEqual(proof.add_reader(1), [0])
-        self.assertEqual(proof.keep(0, 0, 1), [0])
+        calls = self.calls + [keep(0, 0, 1)] * 10 + [carry()]
+        self.assertEqual(after(calls, keep(0, 0, 1), begins(1), reader(1), keep(0, 0, 1)), [[-5], [1], [0], [0]])
 
 
 class Withdraw(unittest.TestCase):
