@@ -12,6 +12,9 @@ class NoMarks(unittest.TestCase):
     def test_at_the_beginning(self):
         self.assertEqual(ask(carry(), shown()), [[0, 0], [0]])
 
+    def test_the_first_proof_is_0_without_begins_too(self):
+        self.assertEqual(ask(reader(1), change(0, 0, 0, 7), carry(), mark(0), who(0))[2:], [[1, 1, 0], [1, 0, 0], [1, 0, 0]])
+
     def test_withdrawn_ones_are_none(self):
         self.assertEqual(on_text(2, change(0, 0, 1), withdraw(0), carry(), shown())[2:], [[0, 0], [2, 1, 2]])
 

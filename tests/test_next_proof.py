@@ -243,6 +243,11 @@ class WhereItStandsAlready(unittest.TestCase):
         found = after(calls, keep(1, 0, 1), change(1, 1, 1, 7), change(1, 0, 0, 7), keep(1, 1, 3), clashes())
         self.assertEqual(found[-1], [2, 0, 3, 0, 4])
 
+    def test_it_does_not_ask_the_same_as_a_change_of_its_words_to_nothing(self):
+        calls = [text_of(5), *READERS, move(1, 3, 4, 1), change(0, 1, 3), carry(), change(1, 1, 2)]
+        found = after(calls, mark(0), mark(2), clashes(), tested(0, 2), carry(), shown())
+        self.assertEqual(found, [[0, 1, 2, 1, 2, 1], [0, 1, 0, 1, 2, 0], [1, 0, 2], [-4], [1, 1, 0], [3, 1, 4, 5]])
+
 
 class States(unittest.TestCase):
     def test_told_with_the_proof_in_which_it_stood(self):
